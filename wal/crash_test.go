@@ -35,12 +35,15 @@ func sameSum() []byte {
 	return []byte{byte(n), byte(n >> 8), byte(n >> 16), byte(n >> 24), byte(n >> 32)}
 }
 
+// ahead is how many bytes of a group's text stand ahead of the bytes of its one record.
+const ahead = countSize + lengthSize
+
 // alikeInSum are a record of so many bytes, by chance, but all groups of such a one have one check sum, and so has whatever is put together of halves of theirs.
 func alikeInSum(rnd *rand.Rand, n int) []byte {
 	b := make([]byte, n)
-	for half := 0; half*halfText < n+lengthSize; half++ {
+	for half := 0; half*halfText < n+ahead; half++ {
 		for range 3 {
-			at := half*halfText - lengthSize + rnd.Intn(halfText-4)
+			at := half*halfText - ahead + rnd.Intn(halfText-4)
 			for i, x := range sameSum() {
 				if at >= 0 && at+5 <= n {
 					b[at+i] ^= x
@@ -55,6 +58,7 @@ func TestAlikeInSum(t *testing.T) {
 	rnd := rand.New(rand.NewSource(1))
 	for n := range 100 {
 		a, b, other := pack(records{alikeInSum(rnd, n)}), pack(records{alikeInSum(rnd, n)}), 0
+		sum := sumOf(a)
 		for i := 0; i < len(a); i += halfText {
 			if !bytes.Equal(a[i:i+halfText], b[i:i+halfText]) {
 				other++
@@ -63,8 +67,8 @@ func TestAlikeInSum(t *testing.T) {
 				copy(a[i:i+halfText], b[i:i+halfText])
 			}
 		}
-		if _, ok := unpack(a); !ok || n > 30 && other == 0 {
-			t.Fatalf("%d bytes: %d halves are unlike; mixed: %t", n, other, ok)
+		if sumOf(a) != sum || sumOf(b) != sum || n > 30 && other == 0 {
+			t.Fatalf("%d bytes: %d halves are unlike; sums %x, %x and %x mixed", n, other, sum, sumOf(b), sumOf(a))
 		}
 	}
 }
@@ -290,7 +294,7 @@ func randomStep(rnd *rand.Rand, m *plain) step {
 // P7.6: three groups of one number, one place, one shape and one check sum: of the first two, crashes leave whatever halves; no two are taken for one.
 func TestHalvesOfTwoGroups(t *testing.T) {
 	rnd := rand.New(rand.NewSource(3))
-	const size = 38 // two sectors
+	const size = 77 // two sectors
 	for n := range 4 * 4 * 4 * 4 {
 		p, w := fresh(t, small)
 		lay(t, w, write("ahead"))
@@ -579,17 +583,15 @@ func TestAnyBytes(t *testing.T) {
 
 // R4: groups with right tags, and right check sums, that no Append laid down.
 func TestForgedGroups(t *testing.T) {
-	sealed := func(sectors, count int, lengths ...int) []byte {
+	text := func(sectors, count int, lengths ...int) []byte {
 		b := make([]byte, sectors*textSize)
 		b[0] = byte(count)
 		for i, n := range lengths {
-			put(b[textSize+2*i:][:2], n)
+			put(b[countSize+2*i:][:2], n)
 		}
-		put(b[sumAt:sumAt+sumSize], sumOf(b))
 		return b
 	}
-	broken := sealed(3, 1, 20)
-	broken[textSize+5]++
+	of := func(no, cost int) stamp { return stamp{age: 9, no: no, cost: cost} }
 	for _, x := range []struct {
 		name  string
 		s     stamp
@@ -597,20 +599,20 @@ func TestForgedGroups(t *testing.T) {
 		t     []byte
 		next  int // 0: Open tells ErrCorrupt
 	}{
-		{"a group like all others", stamp{9, 3, 3}, 8, sealed(3, 1, 20), 4},
-		{"a gap", stamp{9, 5, 3}, begin(1), sealed(3, 1, 20), 0},
-		{"a number that there is", stamp{9, 1, 3}, begin(1), sealed(3, 1, 20), 0},
-		{"a gap behind a group", stamp{9, 4, 3}, 8, sealed(3, 1, 20), 3},
-		{"a wrong sum", stamp{9, 3, 3}, 8, broken, 0},
-		{"a length that is too great", stamp{9, 3, 3}, 8, sealed(3, 1, 79), 0},
-		{"lengths that are too great together", stamp{9, 3, 3}, 8, sealed(3, 2, 70, 7), 0},
-		{"more lengths than there may be", stamp{9, 3, 3}, 8, sealed(3, 255), 0},
-		{"lengths that are not there", stamp{9, 3, 1}, 8, sealed(1, 1), 0},
-		{"a cost that fills the segment", stamp{9, 3, 58}, 8, sealed(58, 1, 20), 4},
-		{"a cost that passes the segment", stamp{9, 3, 59}, 8, sealed(59, 1, 20), 3},
-		{"a cost that passes the disk", stamp{9, 3, 65}, begin(3), sealed(64, 1, 20), 3},
-		{"no cost", stamp{9, 3, 0}, 8, sealed(1, 0), 3},
-		{"the greatest number", stamp{9, 1<<40 - 1, 3}, begin(2), sealed(3, 1, 20), 0},
+		{"a group like all others", of(3, 3), 8, text(3, 1, 20), 4},
+		{"a gap", of(5, 3), begin(1), text(3, 1, 20), 0},
+		{"a number that there is", of(1, 3), begin(1), text(3, 1, 20), 0},
+		{"a gap behind a group", of(4, 3), 8, text(3, 1, 20), 3},
+		{"a length that just fits", of(3, 3), 8, text(3, 1, 117), 4},
+		{"a length that is too great", of(3, 3), 8, text(3, 1, 118), 0},
+		{"lengths that are too great together", of(3, 3), 8, text(3, 2, 100, 16), 0},
+		{"more lengths than there may be", of(3, 3), 8, text(3, 255), 0},
+		{"lengths that are not there", of(3, 1), 8, text(1, 20), 0},
+		{"a cost that fills the segment", of(3, 58), 8, text(58, 1, 20), 4},
+		{"a cost that passes the segment", of(3, 59), 8, text(59, 1, 20), 3},
+		{"a cost that passes the disk", of(3, 65), begin(3), text(64, 1, 20), 3},
+		{"no cost", of(3, 0), 8, text(1, 0), 3},
+		{"the greatest number", of(1<<32-1, 3), begin(2), text(3, 1, 20), 0},
 	} {
 		p, w := fresh(t, small)
 		for no := range 3 {
@@ -631,6 +633,25 @@ func TestForgedGroups(t *testing.T) {
 		}
 		format(t, p, 0)
 		expect(t, open(t, p, 0), 0)
+	}
+}
+
+// R4: a group whose text is another one than its check sum says.
+func TestAGroupWithAWrongSum(t *testing.T) {
+	for at := range 3 * api.SectorSize {
+		if at%halfSize < tagSize {
+			continue
+		}
+		p, w := fresh(t, small)
+		lay(t, w, ofCost(3, 0))
+		lay(t, w, nil)
+		l := sectorsOf(t, p, 0)[2*api.SectorSize : 5*api.SectorSize]
+		l[at] ^= 1
+		putSectors(t, p, 0, 2, l)
+		w, e := Open(p, 0)
+		if w != nil || e != api.ErrCorrupt {
+			t.Errorf("byte %d is another one: %v %v", at, w, e)
+		}
 	}
 }
 
@@ -669,16 +690,38 @@ func TestOpenWithoutAHeader(t *testing.T) {
 		l[api.SectorSize+at]++
 		putSectors(t, p, 0, 0, l)
 		w, e := Open(p, 0)
-		isTag := at%halfSize < tagSize
-		if (isTag || at < tagSize+sumSize) && (w != nil || e != api.ErrCorrupt) {
+		if w != nil || e != api.ErrCorrupt {
 			t.Errorf("byte %d is another one: %v %v", at, w, e)
+		}
+	}
+}
+
+// P7.3, P7.4: numbers, and ages, as great as a log can come to: some more than 2^31, as the last steps that are promised do.
+func TestGreatNumbers(t *testing.T) {
+	for _, n := range []int{1<<8 - 2, 1<<16 - 2, 1<<24 - 2, 1<<31 - 2} {
+		p, w := fresh(t, small)
+		if e := w.d.layHeader(header{slot: w.h.slot, age: n, first: n}); e != api.OK {
+			t.Fatal(e)
+		}
+		w = open(t, p, 0)
+		expect(t, w, n)
+		for no := n; no < n+8; no++ {
+			lay(t, w, ofCost(2, no))
+			expect(t, open(t, p, 0), w.First(), ofCost(2, no))
+			w = open(t, p, 0)
+			cutTo(t, w, no+1)
+		}
+		w = open(t, p, 0)
+		expect(t, w, n+8)
+		if w.h.age < n+8 {
+			t.Errorf("an age of %d behind one of %d", w.h.age, n)
 		}
 	}
 }
 
 // R4: headers of the greatest numbers are no reason to panic.
 func TestForgedHeaders(t *testing.T) {
-	for _, h := range []header{{age: 1<<40 - 1}, {age: 1<<40 - 1, first: 1<<40 - 1}, {age: 7, first: 1<<40 - 2}, {slot: 1, age: 1<<40 - 2}} {
+	for _, h := range []header{{age: 1<<32 - 1}, {age: 1<<32 - 1, first: 1<<32 - 1}, {age: 7, first: 1<<32 - 2}, {slot: 1, age: 1<<32 - 2}} {
 		p, w := fresh(t, small)
 		lay(t, w, nil)
 		if e := w.d.layHeader(h); e != api.OK {

@@ -24,6 +24,7 @@ type stamp struct {
 	age  int // a header's own; a group's: that of the newest header at its time
 	no   int // the group's number; a header's: that of the first group
 	cost int // the group's; a header's: 0
+	sum  int // the check sum of its text: each half has but one half of it
 }
 
 // header tells which group is the first one. Of the two the whole one with the greatest age counts.
@@ -73,6 +74,7 @@ func (d disk) erase(place, n int) api.Errno {
 
 // lay writes a text of whole sectors, each half behind its tag, for good.
 func (d disk) lay(place int, s stamp, t []byte) api.Errno {
+	s.sum = sumOf(t)
 	for i := range len(t) / textSize {
 		b := make([]byte, 0, api.SectorSize)
 		for h := 2 * i; h < 2*i+2; h++ {
@@ -88,10 +90,7 @@ func (d disk) lay(place int, s stamp, t []byte) api.Errno {
 }
 
 func (d disk) layHeader(h header) api.Errno {
-	s := stamp{age: h.age, no: h.first}
-	t := make([]byte, textSize)
-	put(t[:sumSize], s.sum())
-	return d.lay(h.slot, s, t)
+	return d.lay(h.slot, stamp{age: h.age, no: h.first}, make([]byte, textSize))
 }
 
 // header is what stands in a slot, with the greatest age that either half of it has.
@@ -100,10 +99,10 @@ func (d disk) header(slot int) (header, int, api.Errno) {
 	if e != api.OK {
 		return header{}, 0, e
 	}
-	first, t := cut(b, 0)
+	s := stampOf(b)
+	t, ok := s.text(b)
 	last, _ := cut(b, 1)
-	s := first.stamp()
-	whole := s.cost == 0 && first == s.tag(0) && last == s.tag(1) && number(t[:sumSize]) == s.sum()
+	whole := ok && s.cost == 0 && s.sum == sumOf(t)
 	return header{slot: slot, age: s.age, first: s.no, whole: whole}, max(s.age, last.stamp().age), api.OK
 }
 
@@ -139,7 +138,7 @@ func (d disk) groups(seg, first int) ([]group, api.Errno) {
 			break
 		}
 		if s.no >= first {
-			if _, ok := unpack(t); !ok {
+			if _, ok := unpack(s, t); !ok {
 				return nil, api.ErrCorrupt
 			}
 			l = append(l, group{no: s.no, place: place, cost: s.cost})
@@ -155,29 +154,38 @@ func (d disk) group(place int) (stamp, []byte, api.Errno) {
 	if e != api.OK {
 		return stamp{}, nil, e
 	}
-	first, _ := cut(b, 0)
-	s := first.stamp()
+	s := stampOf(b)
 	if s.cost == 0 || place+s.cost > begin(segmentOf(place)+1) {
 		return stamp{}, nil, api.OK
 	}
-	t := make([]byte, 0, s.cost*textSize)
-	for i := range s.cost {
-		b, e := d.p.Read(d.dev, place+i)
+	for i := 1; i < s.cost; i++ {
+		more, e := d.p.Read(d.dev, place+i)
 		if e != api.OK {
 			return stamp{}, nil, e
 		}
-		for h := range 2 {
-			g, piece := cut(b, h)
-			if g != s.tag(2*i+h) {
-				return stamp{}, nil, api.OK
-			}
-			t = append(t, piece...)
-		}
+		b = append(b, more...)
+	}
+	t, ok := s.text(b)
+	if !ok {
+		return stamp{}, nil, api.OK
 	}
 	return s, t, api.OK
 }
 
-// cut tells the tag and the text of a sector's half.
+// text is what whole sectors have behind their tags; false, if one of these is not what is stamped.
+func (s stamp) text(b []byte) ([]byte, bool) {
+	t := make([]byte, 0, len(b)/api.SectorSize*textSize)
+	for h := range len(b) / halfSize {
+		g, piece := cut(b, h)
+		if g != s.tag(h) {
+			return nil, false
+		}
+		t = append(t, piece...)
+	}
+	return t, true
+}
+
+// cut tells the tag and the text of one of the halves.
 func cut(b []byte, h int) (tag, []byte) {
 	b = b[h*halfSize : (h+1)*halfSize : (h+1)*halfSize]
 	return tag(b[:tagSize]), b[tagSize:]
@@ -186,19 +194,27 @@ func cut(b []byte, h int) (tag, []byte) {
 // tag is that of one of the halves, from 0 on.
 func (s stamp) tag(h int) tag {
 	t := tag{byte(h), byte(s.cost)}
-	put(t[2:7], s.age)
-	put(t[7:], s.no)
+	put(t[2:6], s.age)
+	put(t[6:10], s.no)
+	put(t[10:], s.sum>>(16*(1-h%2)))
 	return t
 }
 
+// stamp is what one tag says: of the check sum just its half.
 func (t tag) stamp() stamp {
-	return stamp{age: number(t[2:7]), no: number(t[7:]), cost: int(t[1])}
+	return stamp{age: number(t[2:6]), no: number(t[6:10]), cost: int(t[1]), sum: number(t[10:])}
 }
 
-func (s stamp) sum() int {
-	t := s.tag(0)
-	return int(crc.Sum(t[:]))
+// stampOf is what the tags of a sector say, if they are those of one write.
+func stampOf(b []byte) stamp {
+	first, _ := cut(b, 0)
+	last, _ := cut(b, 1)
+	s := first.stamp()
+	s.sum = s.sum<<16 | last.stamp().sum
+	return s
 }
+
+func sumOf(t []byte) int { return int(crc.Sum(t)) }
 
 // put writes a number into all of b, the highest byte first; number reads it.
 func put(b []byte, n int) {

@@ -1,14 +1,10 @@
 package wal
 
-import (
-	"groat/api"
-	"groat/crc"
-)
+import "groat/api"
 
-// A group's text: a sector's for how many records it has and the check sum, then the records' lengths, then the records.
+// A group's text: how many records it has, the records' lengths, the records.
 const (
-	sumAt      = 1
-	sumSize    = 4
+	countSize  = 1
 	lengthSize = 2
 )
 
@@ -26,28 +22,27 @@ func sizeOf(l [][]byte) int {
 
 // costOf is how many sectors a group takes.
 func costOf(l [][]byte) int {
-	return 1 + (lengthSize*len(l)+sizeOf(l)+textSize-1)/textSize
+	return (countSize + lengthSize*len(l) + sizeOf(l) + textSize - 1) / textSize
 }
 
 // pack is a group's text; unpack tells the records, or that it is none.
 func pack(l [][]byte) []byte {
 	t := make([]byte, costOf(l)*textSize)
 	t[0] = byte(len(l))
-	lengths := t[textSize:]
+	lengths := t[countSize:]
 	records := lengths[lengthSize*len(l):]
 	for i, r := range l {
 		put(lengths[i*lengthSize:(i+1)*lengthSize], len(r))
 		records = records[copy(records, r):]
 	}
-	put(t[sumAt:sumAt+sumSize], sumOf(t))
 	return t
 }
 
-func unpack(t []byte) ([][]byte, bool) {
-	if len(t) < textSize || number(t[sumAt:sumAt+sumSize]) != sumOf(t) {
+func unpack(s stamp, t []byte) ([][]byte, bool) {
+	if len(t) < textSize || s.sum != sumOf(t) {
 		return nil, false
 	}
-	count, lengths := int(t[0]), t[textSize:]
+	count, lengths := int(t[0]), t[countSize:]
 	if len(lengths) < lengthSize*count {
 		return nil, false
 	}
@@ -62,9 +57,4 @@ func unpack(t []byte) ([][]byte, bool) {
 		records = records[n:]
 	}
 	return l, true
-}
-
-// sumOf is the check sum of what a group's text has but for the sum itself.
-func sumOf(t []byte) int {
-	return int(crc.More(crc.Sum(t[:sumAt]), t[textSize:]))
 }

@@ -80,18 +80,20 @@ func write(texts ...string) records {
 	return l
 }
 
-// ofCost is a group that takes just so many sectors, whose records tell its number.
+// ofCost is a group that takes just so many sectors, all full where MaxPayload lets them be, whose records tell its number.
 func ofCost(cost, no int) records {
-	if cost == 1 {
-		return nil
-	}
-	b := bytes.Repeat([]byte{byte(no), byte(no >> 8), 0, 0xff}, (cost-1)*10)
-	if len(b) <= api.MaxPayload {
-		return records{b[:len(b)-2]}
+	n := 40*cost - 1 - 2
+	if n <= api.MaxPayload {
+		return records{numbered(n, no)}
 	}
 	l := slices.Repeat(records{nil}, api.MaxRecords)
-	l[7] = b[:len(b)-32]
+	l[7] = numbered(min(40*cost-1-2*len(l), api.MaxPayload), no)
 	return l
+}
+
+func numbered(n, no int) []byte {
+	b := bytes.Repeat([]byte{byte(no), byte(no >> 8), 0, 0xff}, n/4+1)
+	return b[:n]
 }
 
 func alikeGroups(a, b records) bool { return slices.EqualFunc(a, b, bytes.Equal) }
@@ -413,18 +415,25 @@ func TestCosts(t *testing.T) {
 		cost int
 	}{
 		{nil, 1},
-		{records{nil}, 2},
+		{records{nil}, 1},
+		{records{make([]byte, 1)}, 1},
+		{records{make([]byte, 37)}, 1},
 		{records{make([]byte, 38)}, 2},
-		{records{make([]byte, 39)}, 3},
+		{records{make([]byte, 77)}, 2},
 		{records{make([]byte, 78)}, 3},
-		{records{make([]byte, 79)}, 4},
-		{make(records, 16), 2},
+		{records{make([]byte, 117)}, 3},
+		{records{make([]byte, 118)}, 4},
+		{make(records, 16), 1},
+		{append(make(records, 15), make([]byte, 7)), 1},
 		{append(make(records, 15), make([]byte, 8)), 2},
-		{append(make(records, 15), make([]byte, 9)), 3},
+		{append(make(records, 15), make([]byte, 47)), 2},
+		{append(make(records, 15), make([]byte, 48)), 3},
+		{records{make([]byte, 17), make([]byte, 18)}, 1},
 		{records{make([]byte, 18), make([]byte, 18)}, 2},
-		{records{make([]byte, 18), make([]byte, 19)}, 3},
-		{records{make([]byte, 2048)}, 53},
+		{records{make([]byte, 2037)}, 51},
 		{records{make([]byte, 2038)}, 52},
+		{records{make([]byte, 2048)}, 52},
+		{append(make(records, 15), make([]byte, 2047)), 52},
 		{append(make(records, 15), make([]byte, 2048)), 53},
 	} {
 		_, w := fresh(t, small)
@@ -518,11 +527,11 @@ func (m *plain) room() int {
 }
 
 func plainCost(l records) int {
-	n := 0
+	n := 1
 	for _, r := range l {
 		n += 2 + len(r)
 	}
-	return 1 + int(math.Ceil(float64(n)/40))
+	return int(math.Ceil(float64(n) / 40))
 }
 
 // isPromised tells whether ErrFull may not be answered.
